@@ -5,10 +5,18 @@ import io
 import unittest
 
 from drivesfair.pool import answers
-from lines import LARGEST
+from lines import LARGEST, slow_plan
 
-LINE = [0, 11, 0, 3, 1, 7, 2, 7, 3, 7, 2, 3, 6, 0, 2, 8, 1, 7, 0, 1, 3, 7, 1]
-ANSWERED = [1, -22, 1, 0, 1, 0, 1, 0, 1, 1, 1, -2, 1, -22, 1, 1, 1, -22, 1, 2]
+# What is handed in for each call, and what is answered to it, all eight among them, taken and refused.
+CALLS_AND_ANSWERS = (
+    ([0, 11], [1, -22]), ([0, 3], [1, 0]), ([4], [1, -6]), ([1, 7], [1, 0]), ([2, 7], [1, 0]), ([3, 7, 2], [1, 1]),
+    ([3, 6, 0], [1, -2]), ([5, 0], [2, 1, 840]), ([5, 1], [2, 0, 1680]), ([5, 3], [1, -2]), ([2, 8], [1, -22]),
+    ([6, 2], [3, 1, 2, 1680]), ([6, LARGEST], [1, -2]), ([7, 3, 3, 7, 6], [4, 3, 0, 1, 1]), ([7, 0], [1, 0]),
+    ([7, 1, 0], [1, -22]), ([7, 20] + [4] * 20, [1, -22]), ([4], [1, 2]), ([1, 7], [1, 1]), ([0, 1], [1, -22]),
+    ([3, 7, 1], [1, 1]), ([6, 1], [3, 1, 2, 1680]), ([7, 7] + [7] * 7, [8, 7, 0, 0, 0, 1, 1, 2, 2]), ([4], [1, 1]),
+)
+LINE = [number for call, answer in CALLS_AND_ANSWERS for number in call]
+ANSWERED = [number for call, answer in CALLS_AND_ANSWERS for number in answer]
 
 
 class Unchangeable(list):
@@ -36,6 +44,28 @@ class InterfaceTest(unittest.TestCase):
             [1, 0, 1, 0, 1, 1, 1, 0, 1, 0, 1, 1, 1, 2, 1, -2, 1, 1],
         )
 
+    def test_calls_behind_a_plan_are_read_at_their_place(self):
+        # The days look like calls here, and the plan is refused for each number of days above 7.
+        for many in range(21):
+            with self.subTest(many=many):
+                days = [1 + day % 3 for day in range(many)]
+                planned = [1, -22] if many > 7 else [many + 1] + slow_plan(days)
+                self.assertEqual(
+                    answers([0, 2, 2, 3, 7, many] + days + [4, 7, many] + days + [4, 1, 3]),
+                    [1, 0, 1, 0] + planned + [1, 0] + planned + [1, -6, 1, 0],
+                )
+
+    def test_a_refused_plan_in_the_midst(self):
+        for days in ([7] * 20, [0] * 20, [0], [4], [65535], [4, 4, 4, 4], [3, 3, 3, 0, 3], [0, 1, 2, 3, 4, 5, 6, 7]):
+            with self.subTest(days=days):
+                self.assertEqual(
+                    answers([0, 2, 2, 3, 2, 3, 7, len(days)] + days + [5, 0, 4, 6, 1]),
+                    [1, 0, 1, 0, 1, 1, 1, -22, 2, 0, 0, 1, 1, 3, 0, 1, 1260],
+                )
+
+    def test_back_has_no_number_behind_it(self):
+        self.assertEqual(answers([0, 2, 2, 3, 2, 3, 4, 4, 4, 1, 3]), [1, 0, 1, 0, 1, 1, 1, 1, 1, 0, 1, -6, 1, 0])
+
     def test_a_list_of_whole_numbers_is_given_back(self):
         given = answers(list(LINE))
         self.assertIs(type(given), list)
@@ -53,7 +83,7 @@ class InterfaceTest(unittest.TestCase):
     def test_nothing_is_kept_from_one_time_to_the_next(self):
         calls = list(LINE)
         first = answers(calls)
-        answers([0, 2, 3, 3, 1, 3, 3, 1])
+        answers([0, 2, 3, 3, 1, 3, 3, 1, 7, 2, 3, 3, 4])
         self.assertEqual(answers(calls), first)
         self.assertEqual(first, ANSWERED)
 
@@ -69,6 +99,9 @@ class InterfaceTest(unittest.TestCase):
             [1, 0] + [number for day in range(1000) for number in (1, day % 10)] + [1, 0] * 999,
         )
         self.assertEqual(answers([0, 1] * 2000), [1, -22] * 2000)
+        self.assertEqual(answers([0, 2] + [4] * 1999), [1, 0] + [1, -6] * 1999)
+        # The longest lists: as many refused plans of 20 days as there is room for.
+        self.assertEqual(answers([0, 2] + ([7, 20] + [3] * 20) * 1363), [1, 0] + [1, -22] * 1363)
 
     def test_it_prints_nothing(self):
         printed = io.StringIO()
